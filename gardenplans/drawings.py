@@ -1,9 +1,12 @@
-"""Drawings of gardens: rows of bytes, and what stands where in them."""
+"""Drawings: rows of bytes, how large a garden they show, and what stands where in them."""
 
 LINE_FEED = 10
 BLANK = 32
 CORNER = 43
 LEVEL_HEDGE = 45
+POINT = 46
+BEGINNING = 65
+END = 66
 UPRIGHT_HEDGE = 124
 MOST_SQUARES_ALONG = 10
 
@@ -34,34 +37,10 @@ def high_of(drawing, wide):
     return squares_along(len(drawing) // line_length(wide))
 
 
-def signs_at(row, column, wide, high):
-    """Tell which bytes may stand in that line and column of a garden's drawing."""
-    if column == 2 * wide + 1:
-        return (LINE_FEED,)
-    if row % 2 == 0 and column % 2 == 0:
-        return (CORNER,)
-    if row % 2 == 1 and column % 2 == 1:
-        return (BLANK,)
-    hedge = LEVEL_HEDGE if row % 2 == 0 else UPRIGHT_HEDGE
-    if row in (0, 2 * high) or column in (0, 2 * wide):
-        return (hedge,)
-    return (hedge, BLANK)
-
-
-def is_garden(drawing):
-    """Tell whether the bytes are the drawing of a garden."""
+def squares_of(drawing):
+    """Tell how many squares a sheet has."""
     wide = wide_of(drawing)
-    # Without a width there is no line length to go by.
-    if wide == 0:
-        return False
-    high = high_of(drawing, wide)
-    if high == 0:
-        return False
-    length = line_length(wide)
-    for place, sign in enumerate(drawing):
-        if sign not in signs_at(place // length, place % length, wide, high):
-            return False
-    return True
+    return wide * high_of(drawing, wide)
 
 
 def place_of(square, wide):
@@ -71,14 +50,31 @@ def place_of(square, wide):
     return row * line_length(wide) + column
 
 
-def are_beside(one, other, wide):
-    """Tell whether the two squares have a side in common."""
-    across = abs(one % wide - other % wide)
-    down = abs(one // wide - other // wide)
-    return across + down == 1
-
-
 def side_between(one, other, wide):
     """Tell at which place of a drawing the side between two squares beside one another stands."""
     # The side's sign lies midway between the squares' signs, in its line as in its column.
     return (place_of(one, wide) + place_of(other, wide)) // 2
+
+
+def inner_sides(drawing):
+    """Tell a sheet's inner sides in the order of their numbers, each by its two squares."""
+    wide = wide_of(drawing)
+    squares = squares_of(drawing)
+    upright = [(square, square + 1) for square in range(squares) if square % wide < wide - 1]
+    level = [(square, square + wide) for square in range(squares - wide)]
+    return upright + level
+
+
+def sides_with(drawing, sign):
+    """Tell the inner sides of a sheet at which that sign stands."""
+    wide = wide_of(drawing)
+    return [side for side in inner_sides(drawing) if drawing[side_between(side[0], side[1], wide)] == sign]
+
+
+def beyond_sides(sides, squares):
+    """Tell for each of so many squares which ones lie beyond those of its sides that are named."""
+    beyond = [[] for square in range(squares)]
+    for side in sides:
+        beyond[side[0]].append(side[1])
+        beyond[side[1]].append(side[0])
+    return beyond

@@ -1,65 +1,50 @@
 """The calls: each answers a list, 0 and what is told behind it, or a refusal."""
 
-from gardenplans.drawings import BLANK, are_beside, high_of, is_garden, place_of, side_between, wide_of
+from gardenplans.sheets import fault_of, garden_on, is_garden, plan_drawing, way_on
+from gardenplans.ways import is_plan_way
 
 TOLD = 0
 TOO_LONG = -2
-NO_GARDEN = -6
+NO_DRAWING = -6
 NO_WAY = -9
 
 MOST_BYTES = 1024
 
-POINT = 46
-BEGINNING = 65
-END = 66
+
+def garden_refusal(drawing):
+    """Answer the refusal of a drawing that is no garden's; an empty list if it is one's."""
+    if len(drawing) > MOST_BYTES:
+        return [TOO_LONG]
+    if not is_garden(drawing):
+        return [NO_DRAWING]
+    return []
 
 
-def all_once(squares, count):
-    """Tell whether each square is one of the first so many, and none stands twice."""
-    met = {}
-    for square in squares:
-        if square >= count or square in met:
-            return False
-        met[square] = True
-    return True
-
-
-def is_step(drawing, one, other, wide):
-    """Tell whether the two squares are beside one another, with a passage between."""
-    return are_beside(one, other, wide) and drawing[side_between(one, other, wide)] == BLANK
-
-
-def is_plan_way(drawing, squares):
-    """Tell whether the squares are a way in the garden of two and more that comes nowhere twice."""
-    wide = wide_of(drawing)
-    # Every square must be known to lie in the garden before a side beside it is looked up.
-    if len(squares) < 2 or not all_once(squares, wide * high_of(drawing, wide)):
-        return False
-    for k in range(1, len(squares)):
-        if not is_step(drawing, squares[k - 1], squares[k], wide):
-            return False
-    return True
-
-
-def plan_drawing(drawing, squares):
-    """Draw the plan of a garden's drawing and a way in it, on a sheet of its own."""
-    wide = wide_of(drawing)
-    drawn = list(drawing)
-    for square in squares:
-        drawn[place_of(square, wide)] = POINT
-    for k in range(1, len(squares)):
-        drawn[side_between(squares[k - 1], squares[k], wide)] = POINT
-    drawn[place_of(squares[0], wide)] = BEGINNING
-    drawn[place_of(squares[-1], wide)] = END
-    return drawn
+def plan_refusal(drawing):
+    """Answer the refusal of a drawing that is no plan's; an empty list if it is one's."""
+    if len(drawing) > MOST_BYTES:
+        return [TOO_LONG]
+    fault = fault_of(drawing)
+    if fault is not None:
+        return [NO_DRAWING, fault]
+    if len(way_on(drawing)) == 0:
+        return [NO_WAY]
+    return []
 
 
 def print_of(garden, way):
     """Answer the drawing of the plan that the garden's drawing and the way's squares make."""
-    if len(garden) > MOST_BYTES:
-        return [TOO_LONG]
-    if not is_garden(garden):
-        return [NO_GARDEN]
+    refusal = garden_refusal(garden)
+    if len(refusal) > 0:
+        return refusal
     if not is_plan_way(garden, way):
         return [NO_WAY]
     return [TOLD] + plan_drawing(garden, way)
+
+
+def garden(plan):
+    """Answer the drawing of the plan's garden."""
+    refusal = plan_refusal(plan)
+    if len(refusal) > 0:
+        return refusal
+    return [TOLD] + garden_on(plan)

@@ -1,6 +1,10 @@
 """Gardens, ways and plans for the tests, built by the document's words and not by the program."""
 
+from functools import lru_cache
 from itertools import product
+from random import Random
+
+SIZES = list(product(range(1, 11), repeat=2))
 
 
 def sheet(*lines):
@@ -50,19 +54,90 @@ def every_hedging(wide, high):
         yield [k for k in range(sides) if choice[k]]
 
 
-def every_way(wide, high, hedges):
-    """Every way of two squares and more that comes nowhere twice."""
+def neighbours(wide, high, hedges):
+    """The squares that passages lead to, of each square."""
     steps = {square: [] for square in range(wide * high)}
     for k, (one, other) in enumerate(inner_sides(wide, high)):
         if k not in hedges:
             steps[one].append(other)
             steps[other].append(one)
+    return steps
+
+
+def every_way(wide, high, hedges):
+    """Every way of two squares and more that comes nowhere twice."""
+    steps = neighbours(wide, high, hedges)
     begun = [[square] for square in steps]
     while begun:
         way = begun.pop()
         if len(way) > 1:
             yield way
         begun.extend(way + [square] for square in steps[way[-1]] if square not in way)
+
+
+def every_plan(wide, high):
+    """Every plan of that size, as its hedges and its way."""
+    for hedges in every_hedging(wide, high):
+        for way in every_way(wide, high, hedges):
+            yield hedges, way
+
+
+def some_hedges(chance, wide, high):
+    """Hedges at few or many inner sides, by a source that gives the same ones each time."""
+    part = chance.random()
+    return [k for k in range(len(inner_sides(wide, high))) if chance.random() < part]
+
+
+def some_way(chance, wide, high, hedges):
+    """A way that goes on by chance as long as it can or likes; None if it can't begin where it would."""
+    steps = neighbours(wide, high, hedges)
+    way = [chance.randrange(wide * high)]
+    length = chance.randint(2, wide * high + 1)
+    while len(way) < length:
+        ahead = [square for square in steps[way[-1]] if square not in way]
+        if not ahead:
+            break
+        way.append(chance.choice(ahead))
+    return way if len(way) > 1 else None
+
+
+def some_plans(seed, rounds, sizes=SIZES):
+    """Plans by chance of each of these sizes, the same ones each time."""
+    chance = Random(seed)
+    for turn in range(rounds):
+        for wide, high in sizes:
+            hedges = some_hedges(chance, wide, high)
+            way = some_way(chance, wide, high, hedges)
+            if way:
+                yield wide, high, hedges, way
+
+
+@lru_cache(maxsize=None)
+def signs_of_sheet(wide, high):
+    """Which signs may stand at each place of a sheet of that size."""
+    border = [b"+"] + [b"-", b"+"] * wide + [b"\n"]
+    level = [b"+"] + [b"- .", b"+"] * wide + [b"\n"]
+    upright = [b"|"] + [b" .AB", b"| ."] * (wide - 1) + [b" .AB", b"|", b"\n"]
+    return border + (upright + level) * (high - 1) + upright + border
+
+
+def agreeing(drawing, signs):
+    """How many bytes from the beginning stand where they may."""
+    for place, (byte, fitting) in enumerate(zip(drawing, signs)):
+        if byte not in fitting:
+            return place
+    return min(len(drawing), len(signs))
+
+
+def fault(drawing):
+    """The place up to which some sheet goes along with the drawing; None if the drawing is one."""
+    places = []
+    for wide, high in SIZES:
+        signs = signs_of_sheet(wide, high)
+        places.append(agreeing(drawing, signs))
+        if places[-1] == len(drawing) == len(signs):
+            return None
+    return max(places)
 
 
 def snake(wide, high):

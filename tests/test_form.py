@@ -5,6 +5,8 @@ import re
 import unittest
 from pathlib import Path
 
+from gardenplans import plans
+
 PACKAGE = Path(__file__).resolve().parent.parent / "gardenplans"
 FILES = [path for path in sorted(PACKAGE.rglob("*")) if path.is_file() and "__pycache__" not in path.parts]
 CALLED = set(
@@ -70,8 +72,10 @@ class Form(unittest.TestCase):
 
 class Interface(unittest.TestCase):
     def test_print_of_takes_a_garden_and_a_way_by_name(self):
-        from gardenplans.plans import print_of
-        self.assertEqual(print_of(garden=[], way=[]), [-6])
+        self.assertEqual(plans.print_of(garden=[], way=[]), [-6])
+
+    def test_what_reads_a_plan_takes_it_by_name(self):
+        self.assertEqual(plans.garden(plan=[]), [-6, 0])
 
 
 if __name__ == "__main__":
