@@ -48,3 +48,11 @@ def garden(plan):
     if len(refusal) > 0:
         return refusal
     return [TOLD] + garden_on(plan)
+
+
+def way(plan):
+    """Answer the squares of the plan's way, from A to B."""
+    refusal = plan_refusal(plan)
+    if len(refusal) > 0:
+        return refusal
+    return [TOLD] + way_on(plan)

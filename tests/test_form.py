@@ -75,7 +75,8 @@ class Interface(unittest.TestCase):
         self.assertEqual(plans.print_of(garden=[], way=[]), [-6])
 
     def test_what_reads_a_plan_takes_it_by_name(self):
-        self.assertEqual(plans.garden(plan=[]), [-6, 0])
+        for call in (plans.garden, plans.way):
+            self.assertEqual(call(plan=[]), [-6, 0])
 
 
 if __name__ == "__main__":
