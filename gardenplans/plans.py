@@ -1,7 +1,8 @@
 """The calls: each answers a list, 0 and what is told behind it, or a refusal."""
 
+from gardenplans.rooms import is_perfect
 from gardenplans.sheets import fault_of, garden_on, is_garden, plan_drawing, way_on
-from gardenplans.ways import is_plan_way
+from gardenplans.ways import is_only, is_plan_way, is_shortest
 
 TOLD = 0
 TOO_LONG = -2
@@ -56,3 +57,16 @@ def way(plan):
     if len(refusal) > 0:
         return refusal
     return [TOLD] + way_on(plan)
+
+
+def judge(plan):
+    """Answer whether the plan's garden is perfect, its way a shortest, and the only one, and its steps."""
+    refusal = plan_refusal(plan)
+    if len(refusal) > 0:
+        return refusal
+    squares = way_on(plan)
+    drawn = garden_on(plan)
+    perfect = 1 if is_perfect(drawn) else 0
+    shortest = 1 if is_shortest(drawn, squares) else 0
+    only = 1 if is_only(plan, squares) else 0
+    return [TOLD, perfect, shortest, only, len(squares) - 1]

@@ -1,6 +1,7 @@
 """Ways in a garden."""
 
 from gardenplans.drawings import BLANK, beyond_sides, sides_with, squares_of
+from gardenplans.rooms import rooms_by
 
 
 def all_once(squares, count):
@@ -28,3 +29,32 @@ def is_plan_way(drawing, squares):
         if squares[k] not in beyond[squares[k - 1]]:
             return False
     return True
+
+
+def shortest_ways(beyond, begin):
+    """Tell for each square that ways lead to from the first one a way there with the fewest squares."""
+    ways = {begin: [begin]}
+    reached = [begin]
+    while len(reached) > 0:
+        ahead = []
+        for square in reached:
+            for other in beyond[square]:
+                if other not in ways:
+                    ways[other] = ways[square] + [other]
+                    ahead.append(other)
+        reached = ahead
+    return ways
+
+
+def is_shortest(drawing, squares):
+    """Tell whether no way in the garden between the ends of that one has fewer squares."""
+    ways = shortest_ways(beyond_passages(drawing), squares[0])
+    return len(squares) == len(ways[squares[-1]])
+
+
+def is_only(plan, squares):
+    """Tell whether no other way between the ends of the plan's way comes nowhere twice."""
+    # Another one would leave the way somewhere and come back to it elsewhere, by passages that the
+    # way doesn't take: on the plan's drawing, those that are still blank.
+    rooms = rooms_by(sides_with(plan, BLANK), squares_of(plan))
+    return len(set([rooms[square] for square in squares])) == len(squares)

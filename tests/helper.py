@@ -140,6 +140,54 @@ def fault(drawing):
     return max(places)
 
 
+def rooms(wide, high, hedges):
+    """The rooms of a garden, each a set of squares, found by walking from square to square."""
+    steps = neighbours(wide, high, hedges)
+    found = []
+    for begin in steps:
+        if any(begin in room for room in found):
+            continue
+        room, ahead = {begin}, [begin]
+        while ahead:
+            fresh = [square for square in steps[ahead.pop()] if square not in room]
+            room.update(fresh)
+            ahead.extend(fresh)
+        found.append(room)
+    return found
+
+
+def without_ring(wide, high, hedges):
+    """Whether no passage leads back to where ways had already come from elsewhere."""
+    passages = len(inner_sides(wide, high)) - len(set(hedges))
+    return passages == wide * high - len(rooms(wide, high, hedges))
+
+
+def fewest_steps(wide, high, hedges, begin, end):
+    """How many steps the nearest way from one square to another has; None if there is no way."""
+    steps = neighbours(wide, high, hedges)
+    met, edge, count = {begin}, {begin}, 0
+    while end not in met and edge:
+        edge = {other for square in edge for other in steps[square]} - met
+        met |= edge
+        count += 1
+    return count if end in met else None
+
+
+def tree(seed, wide, high):
+    """The hedges of a perfect garden that chance chose."""
+    chance = Random(seed)
+    sides = list(enumerate(inner_sides(wide, high)))
+    chance.shuffle(sides)
+    room = list(range(wide * high))
+    hedges = []
+    for k, (one, other) in sides:
+        if room[one] == room[other]:
+            hedges.append(k)
+        else:
+            room = [room[one] if number == room[other] else number for number in room]
+    return sorted(hedges)
+
+
 def snake(wide, high):
     """A way through every square, row by row, there and back."""
     way = []

@@ -75,7 +75,7 @@ class Interface(unittest.TestCase):
         self.assertEqual(plans.print_of(garden=[], way=[]), [-6])
 
     def test_what_reads_a_plan_takes_it_by_name(self):
-        for call in (plans.garden, plans.way):
+        for call in (plans.garden, plans.way, plans.judge):
             self.assertEqual(call(plan=[]), [-6, 0])
 
 

@@ -4,12 +4,12 @@ import unittest
 from itertools import product
 from random import Random
 
-from gardenplans.plans import garden, way
+from gardenplans.plans import garden, judge, way
 from tests.helper import (
     SIZES, Untouched, draw, every_plan, fault, inner_sides, sheet, signs_of_sheet, snake, some_plans,
 )
 
-READERS = (garden, way)
+READERS = (garden, way, judge)
 SMALL = sheet(
     "+-+-+-+",
     "|..A|B|",

@@ -1,0 +1,26 @@
+"""Rooms: squares that ways join, told by a number for each square, the same for those of one room."""
+
+from gardenplans.drawings import BLANK, sides_with, squares_of
+
+
+def joined(rooms, side):
+    """Tell the rooms as they are once the two squares of that side are of one."""
+    one = rooms[side[0]]
+    other = rooms[side[1]]
+    return [one if room == other else room for room in rooms]
+
+
+def rooms_by(sides, squares):
+    """Tell the rooms of so many squares with passages at just these inner sides."""
+    rooms = list(range(squares))
+    for side in sides:
+        rooms = joined(rooms, side)
+    return rooms
+
+
+def is_perfect(drawing):
+    """Tell whether there is just one way between any two squares of the garden that comes nowhere twice."""
+    squares = squares_of(drawing)
+    passages = sides_with(drawing, BLANK)
+    # So many passages join all squares only if none of them closes a ring.
+    return len(passages) == squares - 1 and len(set(rooms_by(passages, squares))) == 1
