@@ -78,3 +78,14 @@ def beyond_sides(sides, squares):
         beyond[side[0]].append(side[1])
         beyond[side[1]].append(side[0])
     return beyond
+
+
+def garden_drawing(drawing, passages):
+    """Draw a garden of the drawing's size with passages at just these inner sides."""
+    wide = wide_of(drawing)
+    drawn = list(drawing)
+    for side in inner_sides(drawing):
+        in_a_row = side[0] // wide == side[1] // wide
+        hedge = UPRIGHT_HEDGE if in_a_row else LEVEL_HEDGE
+        drawn[side_between(side[0], side[1], wide)] = BLANK if side in passages else hedge
+    return drawn

@@ -1,11 +1,13 @@
 """The calls: each answers a list, 0 and what is told behind it, or a refusal."""
 
-from gardenplans.rooms import is_perfect
+from gardenplans.drawings import squares_of
+from gardenplans.rooms import is_perfect, mended
 from gardenplans.sheets import fault_of, garden_on, is_garden, plan_drawing, way_on
-from gardenplans.ways import is_only, is_plan_way, is_shortest
+from gardenplans.ways import is_only, is_plan_way, is_shortest, longest_way
 
 TOLD = 0
 TOO_LONG = -2
+ONE_SQUARE = -5
 NO_DRAWING = -6
 NO_WAY = -9
 
@@ -70,3 +72,14 @@ def judge(plan):
     shortest = 1 if is_shortest(drawn, squares) else 0
     only = 1 if is_only(plan, squares) else 0
     return [TOLD, perfect, shortest, only, len(squares) - 1]
+
+
+def make(garden):
+    """Answer the drawing of the plan made of the garden: mended, with its longest way."""
+    refusal = garden_refusal(garden)
+    if len(refusal) > 0:
+        return refusal
+    if squares_of(garden) == 1:
+        return [ONE_SQUARE]
+    drawn = mended(garden)
+    return [TOLD] + plan_drawing(drawn, longest_way(drawn))

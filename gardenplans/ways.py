@@ -58,3 +58,16 @@ def is_only(plan, squares):
     # way doesn't take: on the plan's drawing, those that are still blank.
     rooms = rooms_by(sides_with(plan, BLANK), squares_of(plan))
     return len(set([rooms[square] for square in squares])) == len(squares)
+
+
+def longest_way(drawing):
+    """Tell the way between the first two squares that are farthest apart in a perfect garden."""
+    beyond = beyond_passages(drawing)
+    longest = []
+    for begin in range(len(beyond)):
+        # Where there is but one way between two squares, it is the first shortest one.
+        ways = shortest_ways(beyond, begin)
+        for end in range(begin + 1, len(beyond)):
+            if len(ways[end]) > len(longest):
+                longest = ways[end]
+    return longest

@@ -162,15 +162,19 @@ def without_ring(wide, high, hedges):
     return passages == wide * high - len(rooms(wide, high, hedges))
 
 
+def distances(steps, begin):
+    """How many steps off each square lies that ways lead to, given the squares that passages lead to."""
+    far, edge = {begin: 0}, [begin]
+    while edge:
+        edge = [(square, other) for square in edge for other in steps[square] if other not in far]
+        far.update((other, far[square] + 1) for square, other in edge)
+        edge = sorted({other for square, other in edge})
+    return far
+
+
 def fewest_steps(wide, high, hedges, begin, end):
     """How many steps the nearest way from one square to another has; None if there is no way."""
-    steps = neighbours(wide, high, hedges)
-    met, edge, count = {begin}, {begin}, 0
-    while end not in met and edge:
-        edge = {other for square in edge for other in steps[square]} - met
-        met |= edge
-        count += 1
-    return count if end in met else None
+    return distances(neighbours(wide, high, hedges), begin).get(end)
 
 
 def tree(seed, wide, high):

@@ -78,6 +78,9 @@ class Interface(unittest.TestCase):
         for call in (plans.garden, plans.way, plans.judge):
             self.assertEqual(call(plan=[]), [-6, 0])
 
+    def test_make_takes_a_garden_by_name(self):
+        self.assertEqual(plans.make(garden=[]), [-6])
+
 
 if __name__ == "__main__":
     unittest.main()
